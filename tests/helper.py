@@ -85,3 +85,99 @@ def sums_fault(demands, aim, told):
     if any(column > most for column, most in zip(columns, aim)):
         return "shares above the aim"
     return None if worth == dot(aim, point) else "unlike sums"
+
+
+def behind(yard, stand, row):
+    """The stand behind a row with times of any size, or None where it can't be walked."""
+    for number, count in row:
+        change = moved(yard, number)
+        taken = dict(yard[1][number][0])
+        # What stands at a place rises or falls evenly: if the first and the last time can be done, all can.
+        if any(min(now, now + (count - 1) * change[place]) < taken.get(place, 0) for place, now in enumerate(stand)):
+            return None
+        stand = tuple(now + count * more for now, more in zip(stand, change))
+    return stand
+
+
+def moved(yard, number):
+    """What a deed gives less what it takes, place by place."""
+    change = [0] * yard[0]
+    for sign, side in ((-1, yard[1][number][0]), (1, yard[1][number][1])):
+        for place, count in side:
+            change[place] += sign * count
+    return change
+
+
+def counted(yard, row):
+    """The load, the pay and the change of a row."""
+    load = sum(yard[1][number][2] * count for number, count in row)
+    pay = sum(yard[1][number][3] * count for number, count in row)
+    changes = [(moved(yard, number), count) for number, count in row]
+    return load, pay, tuple(sum(change[place] * count for change, count in changes) for place in range(yard[0]))
+
+
+def ring_fault(yard, ring):
+    """What keeps a told pair from being a ring, or None."""
+    if type(ring) is not tuple or len(ring) != 2:
+        return "no pair"
+    for row in ring:
+        if type(row) is not list or not all(type(pair) is tuple and len(pair) == 2 for pair in row):
+            return "no row"
+        if not all(type(part) is int for pair in row for part in pair) or not all(count >= 1 for number, count in row):
+            return "no row"
+        if not all(0 <= number < len(yard[1]) for number, count in row):
+            return "no such deed"
+    covered = behind(yard, (0,) * yard[0], ring[0])
+    if covered is None:
+        return "the cover can't be walked"
+    if behind(yard, covered, ring[1]) is None:
+        return "the loop can't be walked"
+    return "the loop takes away" if min(counted(yard, ring[1])[2], default=0) < 0 else None
+
+
+def shut_by_hand(yard, places):
+    """As 3.2 says it, word by word."""
+    for takes, gives, load, pay in yard[1]:
+        if {place for place, number in gives} & set(places) and not {place for place, number in takes} & set(places):
+            return False
+    return True
+
+
+def paper_fault(yard, paper, loads):
+    """What keeps a paper from holding, with a load for each deed or None for those that aren't asked; or None."""
+    if type(paper) is not tuple or len(paper) != 3 or not is_plain_ratio(paper[0]) or type(paper[1]) is not tuple:
+        return "form"
+    if len(paper[1]) != yard[0] or not all(is_plain_ratio(one) for one in paper[1]) or type(paper[2]) is not tuple:
+        return "form"
+    if list(paper[2]) != sorted(set(paper[2])) or not shut_by_hand(yard, paper[2]):
+        return "shut is not shut"
+    least = Fraction(*paper[0])
+    weights = [Fraction(*one) for one in paper[1]]
+    if min(weights + [least]) < 0:
+        return "below nought"
+    for (takes, gives, own, pay), load in zip(yard[1], loads):
+        if load is None or {place for place, number in takes} & set(paper[2]):
+            continue
+        given = sum((weights[place] * number for place, number in gives), Fraction(load))
+        if given > sum((weights[place] * number for place, number in takes), least * pay):
+            return "a deed does not pay"
+    return None
+
+
+def paying_yard(seed, many, count, most=3, greatest=9, least=50):
+    """A yard that has a toll of at most least, with most places coming; deeds are made by weights that they keep to."""
+    chance = random.Random(seed)
+    weights = [chance.randint(1, 30) for place in range(many)]
+    deeds = []
+    while len(deeds) < count:
+        takes = () if chance.randint(0, 9) == 0 else some_side(chance, many, 1, most, greatest)
+        gives = dict(some_side(chance, many, 1, most, greatest))
+        if len(deeds) < many:
+            gives[len(deeds)] = chance.randint(1, greatest)
+            takes = tuple(pair for pair in takes if pair[0] < len(deeds))
+        lack = sum(weights[place] * number for place, number in gives.items())
+        lack -= sum(weights[place] * number for place, number in takes)
+        pay = chance.randint(1, 999) if lack > 0 or chance.randint(0, 2) == 0 else 0
+        if least * pay >= lack:
+            deeds.append((takes, tuple(sorted(gives.items())), chance.randint(0, min(999, least * pay - lack)), pay))
+    return (many, tuple(deeds))

@@ -1,20 +1,12 @@
 import itertools
 import unittest
 
-from helper import STRANGE, nested, some_yard
+from helper import STRANGE, nested, shut_by_hand, some_yard
 from tryweir.coming import comes, cover, is_shut
 from tryweir.rows import is_row, walked
 from tryweir.yards import empty
 
 GREAT = 10 ** 75
-
-
-def shut_by_hand(yard, places):
-    """As 3.2 says it, word by word."""
-    for takes, gives, load, pay in yard[1]:
-        if {place for place, number in gives} & set(places) and not {place for place, number in takes} & set(places):
-            return False
-    return True
 
 
 def single(many, place, number):

@@ -112,6 +112,58 @@ class Language(unittest.TestCase):
                 if isinstance(node, ast.Call) and isinstance(node.func, ast.Attribute):
                     self.assertIn(node.func.attr, METHODS, f"{name}:{node.lineno}")
 
+    def test_what_is_walked_at_once(self):
+        walkers = "list tuple dict sorted sum any all enumerate zip min max".split()
+        for name, tree in trees():
+            walked = []
+            for node in ast.walk(tree):
+                if isinstance(node, (ast.For, ast.comprehension)):
+                    walked.append(node.iter)
+                if isinstance(node, ast.Call) and node.args:
+                    if isinstance(node.func, ast.Name) and node.func.id in walkers:
+                        walked.append(node.args[0])
+            for node in ast.walk(tree):
+                if isinstance(node, ast.Call) and node not in walked:
+                    called = node.func.id if isinstance(node.func, ast.Name) else getattr(node.func, "attr", "")
+                    self.assertNotIn(called, ("zip", "enumerate", "reversed", "range", "items", "keys", "values"),
+                                     f"{name}:{node.lineno}")
+
+    def test_sets_are_not_kept(self):
+        for name, tree in trees():
+            for node in ast.walk(tree):
+                for inner in ast.iter_child_nodes(node):
+                    if isinstance(inner, ast.Call) and isinstance(inner.func, ast.Name) and inner.func.id == "set":
+                        self.assertTrue(isinstance(node, (ast.BinOp, ast.Compare))
+                                        or isinstance(node, ast.Call) and node.func.id in ("sorted", "len"),
+                                        f"{name}:{inner.lineno}")
+
+    def test_each_name_of_a_top_is_bound_once(self):
+        for name, tree in trees():
+            bound = [alias.name for node in tree.body if isinstance(node, ast.ImportFrom) for alias in node.names]
+            bound += [node.name for node in tree.body if isinstance(node, (ast.FunctionDef, ast.ClassDef))]
+            bound += [node.targets[0].id for node in tree.body if isinstance(node, ast.Assign)]
+            self.assertEqual(len(bound), len(set(bound)), name)
+
+    def test_what_is_imported_is_used_and_comes_from_where_it_is_made(self):
+        made = {"tryweir." + name[:-3]: [getattr(node, "name", None) or node.targets[0].id for node in tree.body
+                                         if isinstance(node, (ast.FunctionDef, ast.ClassDef, ast.Assign))]
+                for name, tree in trees()}
+        for name, tree in trees():
+            used = {node.id for node in ast.walk(tree) if isinstance(node, ast.Name)}
+            for node in tree.body:
+                if isinstance(node, ast.ImportFrom):
+                    for alias in node.names:
+                        self.assertIn(alias.name, made[node.module], f"{name}:{node.lineno}")
+                        self.assertIn(alias.name, used, f"{name}:{node.lineno}")
+
+    def test_keywords_of_pythons_own(self):
+        allowed = {"sorted": ("key", "reverse"), "min": ("key", "default"), "max": ("key", "default"), "sum": ("start",),
+                   "enumerate": ("start",), "zip": ("strict",)}
+        for where, node in self.each(ast.Call):
+            called = node.func.id if isinstance(node.func, ast.Name) else ""
+            for keyword in node.keywords:
+                self.assertIn(keyword.arg, allowed.get(called, ()), where)
+
     def test_no_local_is_called_like_an_import_or_class(self):
         for name, tree in trees():
             taken = [alias.name for node in tree.body if isinstance(node, ast.ImportFrom) for alias in node.names]

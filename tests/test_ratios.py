@@ -3,7 +3,7 @@ from fractions import Fraction
 
 from helper import STRANGE, is_plain_ratio, nested
 from tryweir.errors import NoRatio, WeirError
-from tryweir.ratios import floor_of, is_ratio, less, minus, over, plus, ratio, times
+from tryweir.ratios import floor_of, is_ratio, less, minus, on_one_bottom, over, plus, ratio, times
 
 GREAT = (10 ** 30 + 57, -(10 ** 31) + 9, 3 ** 70, -(2 ** 101) * 3 ** 20, 10 ** 60 - 1, 10 ** 60)
 SMALL = tuple(range(-12, 13))
@@ -109,6 +109,21 @@ class Reckoned(unittest.TestCase):
         for one, other, first, second in self.pairs():
             for found in (plus(first, second), minus(first, second), times(first, second)):
                 self.assertTrue(is_plain_ratio(found))
+
+
+class OneBottom(unittest.TestCase):
+    """Several ratios over one bottom."""
+
+    def test_all_stay_what_they_are(self):
+        ratios = [ratio(top, bottom) for top, bottom in zip(SMALL + GREAT, GREAT + (1, 2, 6, 9, 12) + GREAT * 4)]
+        for many in range(len(ratios) + 1):
+            tops, bottom = on_one_bottom(ratios[:many])
+            self.assertGreaterEqual(bottom, 1)
+            self.assertEqual([ratio(top, bottom) for top in tops], ratios[:many])
+
+    def test_no_greater_than_needed(self):
+        self.assertEqual(on_one_bottom(()), ([], 1))
+        self.assertEqual(on_one_bottom(((1, 6), (-3, 4), (5, 1))), ([2, -9, 60], 12))
 
 
 class Judged(unittest.TestCase):

@@ -71,3 +71,11 @@ def is_ratio(thing):
     if not is_whole(thing[0]) or not is_whole(thing[1]) or thing[1] < 1:
         return False
     return common(thing[0], thing[1]) == 1
+
+
+def on_one_bottom(ratios):
+    """The tops of some ratios, all over one bottom, and this bottom."""
+    bottom = 1
+    for one in ratios:
+        bottom = bottom // common(bottom, one[1]) * one[1]
+    return ([one[0] * (bottom // one[1]) for one in ratios], bottom)

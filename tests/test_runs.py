@@ -2,128 +2,14 @@ import copy
 import random
 import unittest
 
-from helper import STRANGE
+from helper import FRESH, STRANGE, WORKS, World, ask, net_of, some_net
 from tryweir.errors import NoEvent, NoHouse
 from tryweir.nets import is_net
 from tryweir.runs import may_come, ran, run_load, run_pay
 
-FRESH = ("fresh",)
-WORKS = ("works",)
 WELL = ("ended", "well")
 BAD = ("ended", "bad")
 SPENT = ("ended", "spent")
-
-
-def ask(to, tries=1, purse=None, word="bad", hears=True, sure=True):
-    return (to, tries, purse, word, hears, sure)
-
-
-def net_of(*asks, purses=()):
-    return (tuple((name, tuple(own)) for name, own in zip("abcd", asks)), purses)
-
-
-class World:
-    """A plain run: each errand lives a life of its own, which waits for what it is told next."""
-
-    def __init__(self, net):
-        self.houses, self.purses = net
-        self.names = [name for name, asks in self.houses]
-        self.errands = []
-        self.bags = {name: [0, 0] for name, earns, per in self.purses}
-
-    def life(self, number, asks):
-        if not asks:
-            return (yield WORKS)
-        for at, (to, tries, purse, word, hears, sure) in enumerate(asks):
-            tried = 0
-            while True:
-                tried += 1
-                self.share(purse, tried)
-                self.begin(self.names.index(to), (number, at, tried))
-                heard = yield ("waits", at, tried)
-                if heard == "well":
-                    break
-                if heard == "spent" and hears:
-                    return "spent"
-                if (yield ("stands", at, tried)) == "up":
-                    return word
-        return "well"
-
-    def share(self, purse, tried):
-        for name, earns, per in self.purses:
-            if name == purse and (earns == "any" or tried == 1):
-                self.bags[name][0] += 1
-                if self.bags[name][0] >= per:
-                    self.bags[name] = [0, self.bags[name][1] + 1]
-
-    def begin(self, house, caller):
-        errand = {"house": house, "caller": caller, "lost": False, "state": None}
-        self.errands.append(errand)
-        errand["life"] = self.life(len(self.errands) - 1, self.houses[house][1])
-        self.tell(errand, None)
-
-    def tell(self, errand, word):
-        try:
-            errand["state"] = errand["life"].send(word)
-        except StopIteration as ended:
-            errand["state"] = ("ended", ended.value)
-            if errand["caller"] and not errand["lost"]:
-                self.tell(self.errands[errand["caller"][0]], ended.value)
-
-    def ask_of(self, errand, at):
-        return self.houses[errand["house"]][1][at]
-
-    def can(self, errand, kind):
-        state = errand["state"]
-        if kind == "ends":
-            return state == WORKS
-        if kind == "lost":
-            caller = errand["caller"]
-            return bool(caller) and not errand["lost"] and state[0] != "ended" and not (
-                self.ask_of(self.errands[caller[0]], caller[1])[5])
-        if state[0] != "stands":
-            return False
-        to, tries, purse, word, hears, sure = self.ask_of(errand, state[1])
-        return kind == "up" or (tries == 0 or state[2] < tries) and (purse is None or self.bags[purse][1] > 0)
-
-    def may(self):
-        found = [FRESH]
-        for number, errand in enumerate(self.errands):
-            for event in (("ends", number, "bad"), ("ends", number, "spent"), ("ends", number, "well"), ("lost", number),
-                          ("again", number), ("up", number)):
-                if self.can(errand, event[0]):
-                    found.append(event)
-        return found
-
-    def come(self, event):
-        if event == FRESH:
-            return self.begin(0, None)
-        errand = self.errands[event[1]]
-        if event[0] == "lost":
-            errand["lost"] = True
-            return self.tell(self.errands[errand["caller"][0]], "bad")
-        if event[0] == "again" and self.ask_of(errand, errand["state"][1])[2]:
-            self.bags[self.ask_of(errand, errand["state"][1])[2]][1] -= 1
-        self.tell(errand, event[-1] if event[0] == "ends" else event[0])
-
-    def told(self):
-        errands = [(errand["house"], errand["caller"], errand["state"]) for errand in self.errands]
-        return errands, [tuple(self.bags[name]) for name, earns, per in self.purses]
-
-
-def some_net(seed):
-    chance = random.Random(seed)
-    count = chance.randint(1, 4)
-    purses = tuple((name, chance.choice(("first", "any")), chance.randint(1, 3))
-                   for name in ("p", "q")[:chance.randint(0, 2)])
-    asks = [[] for house in range(count)]
-    for time in range(chance.randint(1, 6) if count > 1 else 0):
-        house = chance.randrange(count - 1)
-        if len(asks[house]) < 3:
-            purse = chance.choice([None] + [name for name, earns, per in purses])
-            asks[house].append(ask("abcd"[chance.randrange(house + 1, count)], chance.randint(0, 4), purse,
-                                   chance.choice(("bad", "spent")), chance.random() < 0.5, chance.random() < 0.5))
-    return net_of(*asks, purses=purses)
 
 
 class Runs(unittest.TestCase):

@@ -8,23 +8,34 @@ FRESH = ("fresh",)
 
 
 class Errand:
-    """An errand: its house, its caller and its state, as they are told, and whether its answer was lost."""
+    """An errand: its house, its caller and its state, as they are told, and whether its answer was lost.
+
+    And the errand that its last try began, and the number of the event with which it last came to stand.
+    """
 
     def __init__(self, house, caller):
         self.house = house
         self.caller = caller
         self.state = ("works",)
         self.is_lost = False
+        self.asked = None
+        self.stood = None
 
 
 class Run:
-    """A run of a net as far as it has gone: its errands, and of each purse the shares and the coins."""
+    """A run of a net as far as it has gone: how many events came, its errands, and what its purses got and gave.
+
+    Puts holds for each purse, for each share that was put into it, the errand that the share's try began; payments
+    a tuple (errand, purse, coin) for each coin that was taken; taken for each purse how many coins were.
+    """
 
     def __init__(self, net):
         self.net = net
+        self.came = 0
         self.errands = []
-        self.shares = [0 for purse in net[1]]
-        self.coins = [0 for purse in net[1]]
+        self.puts = [[] for purse in net[1]]
+        self.payments = []
+        self.taken = [0 for purse in net[1]]
 
 
 def asks_of(run, number):
@@ -37,21 +48,31 @@ def purse_of(run, ask):
     return None if ask[2] is None else number_of(run.net[1], ask[2])
 
 
-def put_share(run, purse):
-    """Puts a share into a purse, where it may make a coin."""
-    run.shares[purse] += 1
-    if run.shares[purse] == run.net[1][purse][2]:
-        run.shares[purse] = 0
-        run.coins[purse] += 1
+def coins_made(run, purse):
+    """How many coins have come in a purse."""
+    return len(run.puts[purse]) // run.net[1][purse][2]
+
+
+def purse_told(run, purse):
+    """The shares and the coins that a purse has."""
+    return (len(run.puts[purse]) % run.net[1][purse][2], coins_made(run, purse) - run.taken[purse])
+
+
+def take_coin(run, purse):
+    """The try that begins next takes its coin."""
+    run.payments.append((len(run.errands), purse, run.taken[purse]))
+    run.taken[purse] += 1
 
 
 def begin_try(run, number, at, tried):
     """An errand makes a try of one of its asks, the first one or a later one."""
     ask = asks_of(run, number)[at]
+    begun = len(run.errands)
     run.errands[number].state = ("waits", at, tried)
+    run.errands[number].asked = begun
     purse = purse_of(run, ask)
     if purse is not None and (tried == 1 or run.net[1][purse][1] == "any"):
-        put_share(run, purse)
+        run.puts[purse].append(begun)
     begin_errand(run, asked_by(run.net, ask), (number, at, tried))
 
 
@@ -82,6 +103,7 @@ def hear(run, caller, word):
         end_errand(run, number, word)
     else:
         run.errands[number].state = ("stands", at, caller[2])
+        run.errands[number].stood = run.came
 
 
 def may_be_lost(run, number):
@@ -92,27 +114,39 @@ def may_be_lost(run, number):
     return not asks_of(run, errand.caller[0])[errand.caller[1]][5]
 
 
-def may_try_again(run, number):
-    """Whether an errand that stands can try again."""
+def has_tries_left(run, number):
+    """Whether an errand stands and has made fewer tries than its ask lets it."""
     state = run.errands[number].state
-    ask = asks_of(run, number)[state[1]]
-    purse = purse_of(run, ask)
-    return (ask[1] == 0 or state[2] < ask[1]) and (purse is None or run.coins[purse] > 0)
+    if state[0] != "stands":
+        return False
+    tries = asks_of(run, number)[state[1]][1]
+    return tries == 0 or state[2] < tries
 
 
-def events_at(run, number):
-    """All events that can come to an errand, in the order in which they are told."""
+def has_coin(run, number):
+    """Whether an errand that stands finds a coin for its try again, or needs none."""
+    purse = purse_of(run, asks_of(run, number)[run.errands[number].state[1]])
+    return purse is None or purse_told(run, purse)[1] > 0
+
+
+def events_by_tries(run, number):
+    """All events that can come to an errand, coins aside, in the order in which they are told."""
     word = run.errands[number].state[0]
     events = []
     if word == "works":
         events.extend([("ends", number, "bad"), ("ends", number, "spent"), ("ends", number, "well")])
     if may_be_lost(run, number):
         events.append(("lost", number))
-    if word == "stands" and may_try_again(run, number):
+    if has_tries_left(run, number):
         events.append(("again", number))
     if word == "stands":
         events.append(("up", number))
     return events
+
+
+def events_at(run, number):
+    """All events that can come to an errand, in the order in which they are told."""
+    return [event for event in events_by_tries(run, number) if event[0] != "again" or has_coin(run, number)]
 
 
 def can_come(run, event):
@@ -136,7 +170,7 @@ def try_again(run, number):
     state = run.errands[number].state
     purse = purse_of(run, asks_of(run, number)[state[1]])
     if purse is not None:
-        run.coins[purse] -= 1
+        take_coin(run, purse)
     begin_try(run, number, state[1], state[2] + 1)
 
 
@@ -157,14 +191,20 @@ def let_come(run, event):
         try_again(run, event[1])
     else:
         go_up(run, event[1])
+    run.came += 1
+
+
+def check_event(run, event):
+    """Refuses an event that can't come next, whatever it is."""
+    if not can_come(run, event):
+        raise NoEvent(run.came)
 
 
 def run_of(net, events):
     """The run that these events make."""
     run = Run(net)
-    for at, event in enumerate(events):
-        if not can_come(run, event):
-            raise NoEvent(at)
+    for event in events:
+        check_event(run, event)
         let_come(run, event)
     return run
 
@@ -173,7 +213,7 @@ def ran(net, events):
     """A pair of lists: the errands (house, caller, state), and the purses (shares, coins)."""
     run = run_of(net, events)
     errands = [(errand.house, errand.caller, errand.state) for errand in run.errands]
-    return (errands, list(zip(run.shares, run.coins)))
+    return (errands, [purse_told(run, purse) for purse in range(len(net[1]))])
 
 
 def run_load(net, events, house):

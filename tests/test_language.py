@@ -78,6 +78,11 @@ class Language(unittest.TestCase):
             self.assertTrue(node.value is None or isinstance(node.value, (int, str)), where)
             self.assertNotIn("%", str(node.value), where)
 
+    def test_texts_with_names_in_them(self):
+        for where, node in self.each(ast.FormattedValue):
+            self.assertIsInstance(node.value, ast.Name, where)
+            self.assertIsNone(node.format_spec, where)
+
     def test_assignments_have_one_plain_target(self):
         for where, node in self.each(ast.Assign):
             self.assertEqual(len(node.targets), 1, where)

@@ -2,6 +2,7 @@ import random
 import time
 import unittest
 
+from helper import STRANGE, nested
 from tryweir.strews import is_apart, peak, strew_load, tick_of, waits_for
 
 
@@ -186,6 +187,12 @@ class Apart(unittest.TestCase):
     def test_the_greatest(self):
         self.assertIs(is_apart(((10 ** 6, 1000), (10 ** 6, 1000), (10 ** 6, 1000))), True)
         self.assertIs(is_apart(((10 ** 6, 1000),) * 4), False)
+
+    def test_of_anything(self):
+        for thing in STRANGE + (nested(30), ((1,),), ((1, 2, 3),), ([1, 2],), ((-1, 2),), ((1, 0),), ((1, -2),), ((True, 1),), ((1, True),),
+                                ((1, 1), None), ((1, 1), (1, "1")), [(1, 1)]):
+            self.assertIs(is_apart(thing), False)
+        self.assertIs(is_apart(((1, 10 ** 60),) * 1300), False)
 
     def test_against_a_count(self):
         chance = random.Random(103)

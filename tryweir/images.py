@@ -1,7 +1,7 @@
 """Images: a net's runs as rows of its yard, its yard's rows as runs, its toll, and what a run owes."""
 
-from tryweir.netyard import chain_of, coin_deed, deed_of, is_at_place, is_leading, line_of, numbered, places_of
-from tryweir.netyard import ways_of, yard_of
+from tryweir.netyard import chain_of, check_yard, coin_deed, deed_of, is_at_place, is_leading, line_of, numbered
+from tryweir.netyard import places_of, ways_of, yard_of
 from tryweir.ratios import lowest, on_one_bottom
 from tryweir.runs import Run, check_event, coins_made, let_come, purse_told, run_of
 from tryweir.tolls import toll
@@ -91,8 +91,7 @@ def stand_of(run):
 
 def owed(net, house, paper, events):
     """The weights, by a paper, of what stands behind a run."""
-    # The paper is one of the yard: so a net without one is refused ahead of the events.
-    ways_of(net, house)
+    check_yard(net, house)
     scaled = on_one_bottom(paper[1])
     stand = stand_of(run_of(net, events))
     return lowest(sum([top * number for top, number in zip(scaled[0], stand)]), scaled[1])

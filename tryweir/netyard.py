@@ -157,3 +157,8 @@ def yard_of(net, house):
     # The ways come first: they refuse what is to be refused in its order.
     deeds = tuple(sorted(ways_of(net, house)))
     return (len(places_of(net)), deeds)
+
+
+def check_yard(net, house):
+    """Refuses a number that no house has, and then a net whose yard is too great."""
+    ways_of(net, house)

@@ -8,7 +8,7 @@ none of shut pays for its load.
 from tryweir.coming import comes, cover, is_shut, touches
 from tryweir.errors import NoDeed
 from tryweir.ratios import on_one_bottom
-from tryweir.rows import change_of, flows, is_row, need_of, walked
+from tryweir.rows import change_of, flows, is_row, need_at, need_of, walked
 from tryweir.sums import least_sums
 from tryweir.yards import empty
 
@@ -28,10 +28,30 @@ def demand_of(yard, number, load):
     return (tuple(numbers), load)
 
 
+def lack_of(yard, stand, step):
+    """How many a stand lacks, at all places together, for a pair of a row to be walked from it."""
+    return sum([max(0, need_at(taken, given, step[1]) - stand[place]) for place, taken, given in flows(yard, step[0])])
+
+
+def in_order(yard, loop):
+    """The pairs of a loop, one behind the other so that each next one is that which lacks least."""
+    # Any order makes a ring, but the less the loop lacks the shorter is its cover: most loops need none then.
+    stand = list(empty(yard))
+    left = list(loop)
+    ordered = []
+    while len(left) > 0:
+        lacks = [lack_of(yard, stand, step) for step in left]
+        step = left.pop(lacks.index(min(lacks)))
+        ordered.append(step)
+        for place, taken, given in flows(yard, step[0]):
+            stand[place] = max(stand[place], need_at(taken, given, step[1])) + step[1] * (given - taken)
+    return ordered
+
+
 def ring_of(yard, deeds, shares):
     """The ring that does each of the deeds, which come, as often as its share says, as against the others."""
     tops = on_one_bottom(shares)[0]
-    loop = [(number, top) for number, top in zip(deeds, tops) if top > 0]
+    loop = in_order(yard, [(number, top) for number, top in zip(deeds, tops) if top > 0])
     return (cover(yard, need_of(yard, loop))[1], loop)
 
 

@@ -209,11 +209,15 @@ def run_of(net, events):
     return run
 
 
-def ran(net, events):
+def told_of(run):
     """A pair of lists: the errands (house, caller, state), and the purses (shares, coins)."""
-    run = run_of(net, events)
     errands = [(errand.house, errand.caller, errand.state) for errand in run.errands]
-    return (errands, [purse_told(run, purse) for purse in range(len(net[1]))])
+    return (errands, [purse_told(run, purse) for purse in range(len(run.net[1]))])
+
+
+def ran(net, events):
+    """What is told of the run that these events make."""
+    return told_of(run_of(net, events))
 
 
 def run_load(net, events, house):

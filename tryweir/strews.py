@@ -1,5 +1,8 @@
 """Strewings: waits that grow, and are strewn by the errands' own numbers."""
 
+from tryweir.words import is_whole
+from tryweir.yards import is_tuple_of
+
 
 def spread_of(strewing, j):
     """The product of the first j widths: on so many ticks, one behind the other, the j-th tries are strewn."""
@@ -59,7 +62,19 @@ def peak(strewing, low, high):
     return greatest
 
 
+def is_pair(thing):
+    """Whether the thing can be a pair of a strewing."""
+    return is_tuple_of(thing, 2) and is_whole(thing[0]) and is_whole(thing[1]) and thing[0] >= 0 and thing[1] >= 1
+
+
 def is_apart(strewing):
-    """Whether tries with unlike j never fall on one tick, of whatever errands."""
-    # The ticks of the next tries begin so many ticks behind the first one of these as the next wait says.
-    return all([strewing[j][0] >= spread_of(strewing, j) for j in range(1, len(strewing))])
+    """Whether tries with unlike j never fall on one tick, of whatever errands; what is no strewing is not apart."""
+    if not isinstance(strewing, tuple) or len(strewing) == 0 or not all([is_pair(pair) for pair in strewing]):
+        return False
+    spread = strewing[0][1]
+    for wait, width in strewing[1:]:
+        # These tries begin so many ticks behind the first one of those ahead as the wait says.
+        if wait < spread:
+            return False
+        spread *= width
+    return True
